@@ -75,12 +75,12 @@ func (p *parts) splitAll() {
 // mark puts a state, which isn't marked, behind those of its block that are.
 func (p *parts) mark(s int) {
 	b := p.block[s]
-	span := &p.spans[b]
-	if span.marked == 0 {
+	where := &p.spans[b]
+	if where.marked == 0 {
 		p.touched = append(p.touched, b)
 	}
-	p.swap(p.place[s], span.from+span.marked)
-	span.marked++
+	p.swap(p.place[s], where.from+where.marked)
+	where.marked++
 }
 
 func (p *parts) swap(i, j int) {
